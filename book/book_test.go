@@ -1,10 +1,11 @@
-package book
+package book_test
 
 import (
 	"strings"
 	"testing"
 
 	"sondage/api"
+	. "sondage/book"
 	"sondage/cell"
 	"sondage/cong"
 	"sondage/key"

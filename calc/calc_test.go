@@ -1,10 +1,11 @@
-package calc
+package calc_test
 
 import (
 	"reflect"
 	"testing"
 
 	"sondage/api"
+	. "sondage/calc"
 	"sondage/cong"
 	"sondage/names"
 	"sondage/reckon"
@@ -12,6 +13,11 @@ import (
 	"sondage/span"
 	"sondage/value"
 	"sondage/wrap"
+)
+
+const (
+	least = -1 << 63
+	most  = 1<<63 - 1
 )
 
 var points = []int{least, least + 1, -6, -5, -4, -3, -2, -1, 0, 1, 2, 3, 4, 5, 6, most - 1, most}

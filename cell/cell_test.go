@@ -1,10 +1,11 @@
-package cell
+package cell_test
 
 import (
 	"slices"
 	"testing"
 
 	"sondage/api"
+	. "sondage/cell"
 	"sondage/cong"
 	"sondage/env"
 	"sondage/names"

@@ -1,4 +1,4 @@
-package change
+package change_test
 
 import (
 	"slices"
@@ -6,6 +6,7 @@ import (
 	"testing"
 
 	"sondage/api"
+	. "sondage/change"
 	"sondage/grammar"
 )
 

@@ -1,4 +1,4 @@
-package check
+package check_test
 
 import (
 	"strconv"
@@ -6,6 +6,7 @@ import (
 	"testing"
 
 	"sondage/api"
+	. "sondage/check"
 	"sondage/grammar"
 	"sondage/parse"
 )

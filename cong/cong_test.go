@@ -1,12 +1,16 @@
-package cong
+package cong_test
 
 import (
 	"testing"
 
 	"sondage/api"
+	. "sondage/cong"
 )
 
-const least = -1 << 63
+const (
+	least = -1 << 63
+	most  = 1<<63 - 1
+)
 
 // congs has clean and other congruences.
 func congs() []api.Cong {

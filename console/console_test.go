@@ -1,10 +1,11 @@
-package console
+package console_test
 
 import (
 	"slices"
 	"strings"
 	"testing"
 
+	. "sondage/console"
 	"sondage/sample"
 )
 

@@ -1,4 +1,4 @@
-package edge
+package edge_test
 
 import (
 	"strings"
@@ -6,6 +6,7 @@ import (
 
 	"sondage/api"
 	"sondage/cong"
+	. "sondage/edge"
 	"sondage/env"
 	"sondage/grammar"
 	"sondage/look"

@@ -1,4 +1,4 @@
-package env
+package env_test
 
 import (
 	"reflect"
@@ -6,6 +6,7 @@ import (
 
 	"sondage/api"
 	"sondage/cong"
+	. "sondage/env"
 	"sondage/names"
 	"sondage/span"
 	"sondage/value"

@@ -1,10 +1,11 @@
-package eval
+package eval_test
 
 import (
 	"slices"
 	"testing"
 
 	"sondage/api"
+	. "sondage/eval"
 	"sondage/mem"
 	"sondage/parse"
 )

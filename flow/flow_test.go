@@ -1,4 +1,4 @@
-package flow
+package flow_test
 
 import (
 	"reflect"
@@ -8,6 +8,7 @@ import (
 	"testing"
 
 	"sondage/api"
+	. "sondage/flow"
 	"sondage/grammar"
 	"sondage/print"
 )

@@ -1,6 +1,13 @@
-package gauge
+package gauge_test
 
-import "testing"
+import (
+	"testing"
+
+	. "sondage/gauge"
+)
+
+// most is the largest count.
+const most = 1 << 52
 
 func parts(t *testing.T, g *Gauge, evals, kept, share int) {
 	t.Helper()

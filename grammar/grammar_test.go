@@ -1,4 +1,4 @@
-package grammar
+package grammar_test
 
 import (
 	"reflect"
@@ -7,6 +7,7 @@ import (
 	"testing"
 
 	"sondage/api"
+	. "sondage/grammar"
 	"sondage/parse"
 	"sondage/token"
 	"sondage/tree"

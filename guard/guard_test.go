@@ -1,4 +1,4 @@
-package guard
+package guard_test
 
 import (
 	"slices"
@@ -9,6 +9,7 @@ import (
 	"sondage/cong"
 	"sondage/env"
 	"sondage/eval"
+	. "sondage/guard"
 	"sondage/look"
 	"sondage/mem"
 	"sondage/names"

@@ -1,4 +1,4 @@
-package key
+package key_test
 
 import (
 	"slices"
@@ -6,6 +6,7 @@ import (
 	"testing"
 
 	"sondage/api"
+	. "sondage/key"
 )
 
 func k(name string, node int) api.Key { return api.Key{Name: name, Node: node} }

@@ -1,10 +1,16 @@
-package ladder
+package ladder_test
 
 import (
 	"slices"
 	"testing"
 
 	"sondage/api"
+	. "sondage/ladder"
+)
+
+const (
+	least = -1 << 63
+	most  = 1<<63 - 1
 )
 
 // P16.1

@@ -1,4 +1,4 @@
-package look
+package look_test
 
 import (
 	"slices"
@@ -7,6 +7,7 @@ import (
 
 	"sondage/api"
 	"sondage/cong"
+	. "sondage/look"
 	"sondage/names"
 	"sondage/parse"
 	"sondage/span"

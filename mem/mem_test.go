@@ -1,10 +1,11 @@
-package mem
+package mem_test
 
 import (
 	"slices"
 	"testing"
 
 	"sondage/api"
+	. "sondage/mem"
 )
 
 func world() *Mem {

@@ -1,4 +1,4 @@
-package mix
+package mix_test
 
 import (
 	"testing"
@@ -7,6 +7,7 @@ import (
 	"sondage/cell"
 	"sondage/cong"
 	"sondage/env"
+	. "sondage/mix"
 	"sondage/span"
 	"sondage/value"
 )

@@ -1,10 +1,11 @@
-package names
+package names_test
 
 import (
 	"slices"
 	"testing"
 
 	"sondage/api"
+	. "sondage/names"
 )
 
 // sets has clean sets and others.

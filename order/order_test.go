@@ -1,10 +1,11 @@
-package order
+package order_test
 
 import (
 	"strings"
 	"testing"
 
 	"sondage/api"
+	. "sondage/order"
 )
 
 // P37.1, P37.2, P37.3

@@ -1,4 +1,4 @@
-package post
+package post_test
 
 import (
 	"slices"
@@ -11,6 +11,7 @@ import (
 	"sondage/grammar"
 	"sondage/key"
 	"sondage/look"
+	. "sondage/post"
 	"sondage/rhs"
 	"sondage/run"
 	"sondage/sample"

@@ -1,4 +1,4 @@
-package print
+package print_test
 
 import (
 	"testing"
@@ -6,6 +6,7 @@ import (
 	"sondage/api"
 	"sondage/grammar"
 	"sondage/parse"
+	. "sondage/print"
 	"sondage/tree"
 )
 

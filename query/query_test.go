@@ -1,4 +1,4 @@
-package query
+package query_test
 
 import (
 	"reflect"
@@ -10,6 +10,7 @@ import (
 	"sondage/grammar"
 	"sondage/key"
 	"sondage/names"
+	. "sondage/query"
 	"sondage/span"
 	"sondage/value"
 )

@@ -1,15 +1,19 @@
-package reckon
+package reckon_test
 
 import (
 	"testing"
 
 	"sondage/api"
+	. "sondage/reckon"
 	"sondage/span"
 	"sondage/wide"
 	"sondage/wrap"
 )
 
-const least = -1 << 63
+const (
+	least = -1 << 63
+	most  = 1<<63 - 1
+)
 
 var ops = []int{api.ExpMul, api.ExpDiv, api.ExpRem, api.ExpAdd, api.ExpSub, api.ExpLt, api.ExpLe, api.ExpEq, api.ExpNe, api.ExpAnd, api.ExpOr}
 

@@ -1,4 +1,4 @@
-package reply
+package reply_test
 
 import (
 	"slices"
@@ -8,6 +8,7 @@ import (
 	"sondage/api"
 	"sondage/cong"
 	"sondage/names"
+	. "sondage/reply"
 	"sondage/span"
 	"sondage/value"
 )

@@ -1,14 +1,18 @@
-package residue
+package residue_test
 
 import (
 	"testing"
 
 	"sondage/api"
 	"sondage/cong"
+	. "sondage/residue"
 	"sondage/wrap"
 )
 
-const least = -1 << 63
+const (
+	least = -1 << 63
+	most  = 1<<63 - 1
+)
 
 var ops = []int{api.ExpMul, api.ExpDiv, api.ExpRem, api.ExpAdd, api.ExpSub, api.ExpLt, api.ExpLe, api.ExpEq, api.ExpNe, api.ExpAnd, api.ExpOr}
 

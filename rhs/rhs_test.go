@@ -1,4 +1,4 @@
-package rhs
+package rhs_test
 
 import (
 	"slices"
@@ -12,6 +12,7 @@ import (
 	"sondage/grammar"
 	"sondage/key"
 	"sondage/names"
+	. "sondage/rhs"
 	"sondage/span"
 	"sondage/value"
 )
@@ -50,6 +51,8 @@ func texts(l []api.Key) string {
 func live(l ...api.Bind) api.State { return api.State{Env: env.Clean(api.Env{Live: true, Binds: l})} }
 
 func bind(name string, v api.Value) api.Bind { return api.Bind{Name: name, V: v} }
+
+func result(v api.Value) api.State { return live(bind("", v)) }
 
 func known(text string, s api.State) api.Side { return api.Side{Key: k(text), State: s} }
 
@@ -109,7 +112,6 @@ func TestEval(t *testing.T) {
 	x := func(v api.Value) api.State { return live(bind("x", v)) }
 	n := func(v api.Value) api.State { return live(bind("n", v), bind("q", value.Zero(true))) }
 	i := func(v api.Value) api.State { return live(bind("i", v)) }
-	result := func(v api.Value) api.State { return live(bind("", v)) }
 	val := func(v api.Value) api.State { return api.State{Val: v} }
 	for at, c := range []struct {
 		k     string
@@ -159,27 +161,21 @@ func TestEval(t *testing.T) {
 	}
 }
 
-// P28.2: several contributions to one unknown are one side, and a wish leaves none.
+// P28.2: the sides are in increasing order of keys, and a wish leaves nothing of the edges before it.
 func TestSides(t *testing.T) {
-	p := program("int g;", "int h;", "int *p;", "int *q;", "int main() { if (1) { *p = 1; return 2; } *q = 5; }")
-	// Both edges to node 1 are returns, so that a graph with two stores to one node is made by hand.
-	q := New(p)
-	g := q.graphs["main"]
-	var stores []api.Edge
-	for _, x := range g.Edges {
-		if x.Kind == api.EdgeStore {
-			x.To = 1
-			stores = append(stores, x)
+	p := program("int a;", "int z;", "int f() { }", "int main() { a = f(); z = f(); if (a) { return a; } return z; }")
+	l := []api.Side{known("main.0", live()), known("main.2", live()), known("f.1", result(value.Num(7)))}
+	for _, x := range []struct{ k, sides string }{{"main.2", "a f.0"}, {"main.3", "f.0 z"}} {
+		var keys []api.Key
+		for _, s := range New(p).Eval(l, k(x.k)).Sides {
+			keys = append(keys, s.Key)
+		}
+		if texts(keys) != x.sides {
+			t.Error(x, texts(keys))
 		}
 	}
-	q.into[k("main.1")] = stores
-	l := []api.Side{known("main.2", live()), known("main.4", live()), known("main.7", live()), known("main.6", live()), known("main.5", live()), known("p", api.State{Val: value.Ptr(names.Of(false, "h", "g"))})}
-	r := q.Eval(l, k("main.1"))
-	if !r.Wants || r.Want != k("q") || len(r.Sides) > 0 || r.State.Env.Live {
-		t.Error(r)
-	}
-	r = q.Eval(append(l, known("q", api.State{Val: value.Ptr(names.Of(true, "g"))})), k("main.1"))
-	if len(r.Sides) != 2 || r.Sides[0].Key != k("g") || !value.Same(r.Sides[0].State.Val, value.Int(span.Of(1, 5), cong.Of(4, 1))) || r.Sides[1].Key != k("h") {
+	l = []api.Side{known("main.4", live()), known("main.7", live()), known("main.8", live()), known("a", api.State{Val: value.Num(1)})}
+	if r := New(p).Eval(l, k("main.1")); !r.Wants || r.Want != k("z") || texts(r.Gets) != "main.4 a main.7" || len(r.Sides) > 0 || r.State.Env.Live {
 		t.Error(r)
 	}
 }

@@ -1,4 +1,4 @@
-package run
+package run_test
 
 import (
 	"strconv"
@@ -7,6 +7,7 @@ import (
 
 	"sondage/api"
 	"sondage/grammar"
+	. "sondage/run"
 )
 
 // program parses globals and functions, one a line.
@@ -35,7 +36,7 @@ func begun(t *testing.T, in []int, lines ...string) *Run {
 // finish steps until the last call is at its end, or until a trap; it returns the result of main.
 func finish(r *Run) (int, api.Errno) {
 	for range 100000 {
-		if _, node := r.Where(); r.Deep() == 1 && node == end {
+		if _, node := r.Where(); r.Deep() == 1 && node == 1 {
 			w, _ := r.Local("")
 			return w.N, api.OK
 		}

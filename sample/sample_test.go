@@ -1,4 +1,4 @@
-package sample
+package sample_test
 
 import (
 	"strings"
@@ -6,6 +6,7 @@ import (
 
 	"sondage/api"
 	"sondage/check"
+	. "sondage/sample"
 )
 
 func TestValid(t *testing.T) {

@@ -1,4 +1,4 @@
-package scratch
+package scratch_test
 
 import (
 	"reflect"
@@ -12,6 +12,7 @@ import (
 	"sondage/query"
 	"sondage/run"
 	"sondage/sample"
+	. "sondage/scratch"
 	"sondage/session"
 	"sondage/tree"
 	"sondage/value"

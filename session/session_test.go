@@ -1,4 +1,4 @@
-package session
+package session_test
 
 import (
 	"reflect"
@@ -11,9 +11,11 @@ import (
 	"sondage/key"
 	"sondage/names"
 	"sondage/post"
+	"sondage/print"
 	"sondage/query"
 	"sondage/run"
 	"sondage/sample"
+	. "sondage/session"
 	"sondage/span"
 	"sondage/value"
 )
@@ -346,7 +348,7 @@ func TestSoundness(t *testing.T) {
 				for i, m := range moments(p, []int{input * 5, -3, 7 * seed, 1 << 62, -1 << 63}, 80) {
 					if i%5 == round {
 						if wrong := contradiction(s, m); wrong != "" {
-							t.Fatal(seed, round, input, wrong, s.store.Text())
+							t.Fatal(seed, round, input, wrong, print.Func(s.Program().Funcs[0]))
 						}
 						seen++
 					}
@@ -411,11 +413,11 @@ func TestExactness(t *testing.T) {
 			m, was := reached[at]
 			a := s.Do(api.Command{Kind: api.CmdReach, Func: "main", Node: node})
 			if a.Err != api.OK || (a.Say == api.SayYes) != was {
-				t.Fatal(seed, at, a, was, s.store.Text())
+				t.Fatal(seed, at, a, was, print.Func(s.Program().Funcs[0]))
 			}
 			for name, w := range m.locals {
 				if a := s.Do(api.Command{Kind: api.CmdValue, Func: "main", Node: node, Name: name}); !value.Same(a.Value, value.Num(w.N)) {
-					t.Fatal(seed, at, name, a, w, s.store.Text())
+					t.Fatal(seed, at, name, a, w, print.Func(s.Program().Funcs[0]))
 				}
 			}
 		}

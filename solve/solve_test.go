@@ -1,7 +1,8 @@
-package solve
+package solve_test
 
 import (
 	"slices"
+	"strconv"
 	"strings"
 	"testing"
 
@@ -14,6 +15,7 @@ import (
 	"sondage/look"
 	"sondage/rhs"
 	"sondage/sample"
+	. "sondage/solve"
 	"sondage/span"
 	"sondage/value"
 )
@@ -101,17 +103,13 @@ func TestLoopSteps(t *testing.T) {
 	s.Push(k("main.3"))
 	var seen []string
 	for s.Step() == api.OK {
-		top := "-"
-		if len(s.stack) > 0 {
-			top = key.Text(s.stack[len(s.stack)-1].key)
-		}
-		seen = append(seen, top+"/"+texts(s.Stable())+"/"+texts(s.Points()))
+		seen = append(seen, strconv.Itoa(s.Evals())+"/"+texts(s.Stable())+"/"+texts(s.Points()))
 	}
 	want := []string{
-		"main.2//", "main.0//", "main.0/main.0/", "main.2/main.0/", // wanting, and settling main.0
-		"main.2/main.0 main.2/main.3", "main.3/main.0 main.2/main.3", // main.2 reads main.3, which is on the stack
-		"main.3/main.0/main.3", "main.2/main.0/main.3", // main.3 has grown, so that main.2 and main.3 itself are not stable
-		"main.2/main.0 main.2/main.3", "main.3/main.0 main.2/main.3", "main.3/main.0 main.2 main.3/main.3", "-/main.0 main.2 main.3/main.3",
+		"1//", "2//", "3/main.0/", "3/main.0/", // wanting, settling main.0, and popping it
+		"4/main.0 main.2/main.3", "4/main.0 main.2/main.3", // main.2 reads main.3, which is on the stack
+		"5/main.0/main.3", "6/main.0/main.3", // main.3 has grown, so that main.2 and main.3 itself are not stable
+		"7/main.0 main.2/main.3", "7/main.0 main.2/main.3", "8/main.0 main.2 main.3/main.3", "8/main.0 main.2 main.3/main.3",
 	}
 	if !slices.Equal(seen, want) {
 		t.Error(seen)

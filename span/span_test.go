@@ -1,9 +1,15 @@
-package span
+package span_test
 
 import (
 	"testing"
 
 	"sondage/api"
+	. "sondage/span"
+)
+
+const (
+	least = -1 << 63
+	most  = 1<<63 - 1
 )
 
 var bounds = []int{least, least + 1, -3, -1, 0, 1, 2, 5, most - 1, most}

@@ -1,4 +1,4 @@
-package spread
+package spread_test
 
 import (
 	"strings"
@@ -7,6 +7,7 @@ import (
 	"sondage/api"
 	"sondage/grammar"
 	"sondage/key"
+	. "sondage/spread"
 	"sondage/web"
 )
 

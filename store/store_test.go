@@ -1,4 +1,4 @@
-package store
+package store_test
 
 import (
 	"reflect"
@@ -11,6 +11,7 @@ import (
 	"sondage/grammar"
 	"sondage/print"
 	"sondage/sample"
+	. "sondage/store"
 	"sondage/tree"
 )
 

@@ -1,10 +1,11 @@
-package token
+package token_test
 
 import (
 	"strings"
 	"testing"
 
 	"sondage/api"
+	. "sondage/token"
 )
 
 func name20() string { return strings.Repeat("x", api.MaxName) }

@@ -1,4 +1,4 @@
-package tree
+package tree_test
 
 import (
 	"reflect"
@@ -6,6 +6,7 @@ import (
 	"testing"
 
 	"sondage/api"
+	. "sondage/tree"
 )
 
 func num(n int) api.Expr         { return api.Expr{Op: api.ExpNum, N: n, At: n + 1} }
@@ -116,19 +117,31 @@ func TestCollecting(t *testing.T) {
 	}
 }
 
+func bareStmts(l []api.Stmt) bool {
+	for _, s := range l {
+		if s.At != 0 || !bareExprs(s.Exps) || !bareStmts(s.Kids) || !bareStmts(s.Else) {
+			return false
+		}
+	}
+	return true
+}
+
+func bareExprs(l []api.Expr) bool {
+	for _, e := range l {
+		if e.At != 0 || !bareExprs(e.Kids) {
+			return false
+		}
+	}
+	return true
+}
+
 // P11.4, P11.5
 func TestBare(t *testing.T) {
 	l := body()
 	bare := Bare(l)
-	walk(bare, func(s api.Stmt) {
-		if s.At != 0 {
-			t.Error(s)
-		}
-	}, func(e api.Expr) {
-		if e.At != 0 {
-			t.Error(e)
-		}
-	})
+	if !bareStmts(bare) {
+		t.Error("a position", bare)
+	}
 	if Sizes(bare) != Sizes(l) || Deeps(bare) != Deeps(l) || !SameAll(bare, l) || !SameAll(l, bare) {
 		t.Error("not the same")
 	}

@@ -1,4 +1,4 @@
-package value
+package value_test
 
 import (
 	"reflect"
@@ -8,6 +8,7 @@ import (
 	"sondage/cong"
 	"sondage/names"
 	"sondage/span"
+	. "sondage/value"
 )
 
 const (

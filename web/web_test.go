@@ -1,4 +1,4 @@
-package web
+package web_test
 
 import (
 	"strings"
@@ -6,6 +6,7 @@ import (
 
 	"sondage/api"
 	"sondage/key"
+	. "sondage/web"
 )
 
 func k(text string) api.Key {

@@ -1,10 +1,16 @@
-package wide
+package wide_test
 
 import (
 	"math/big"
 	"testing"
 
 	"sondage/api"
+	. "sondage/wide"
+)
+
+const (
+	least = -1 << 63
+	most  = 1<<63 - 1
 )
 
 var ints = []int{0, 1, -1, 2, -2, 3, 7, -10, 1 << 31, -1 << 31, 1<<32 + 5, 1 << 62, -1 << 62, most - 1, most, least, least + 1}

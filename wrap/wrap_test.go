@@ -1,4 +1,4 @@
-package wrap
+package wrap_test
 
 import (
 	"math/big"
@@ -6,6 +6,7 @@ import (
 
 	"sondage/api"
 	"sondage/wide"
+	. "sondage/wrap"
 )
 
 const (
