@@ -1,7 +1,7 @@
 package query_test
 
 import (
-	"reflect"
+	"slices"
 	"strings"
 	"testing"
 
@@ -75,6 +75,11 @@ func side(text string, s api.State) api.Side { return api.Side{Key: k(text), Sta
 
 func val(v api.Value) api.State { return api.State{Val: v} }
 
+// same compares answers; nil and empty lists are the same.
+func same(a, b api.Answer) bool {
+	return a.Err == b.Err && a.At == b.At && a.Say == b.Say && a.Evals == b.Evals && value.Same(a.Value, b.Value)
+}
+
 // P38.1
 func TestKeys(t *testing.T) {
 	for _, x := range []struct {
@@ -98,7 +103,7 @@ func TestKeys(t *testing.T) {
 		if x.c.Kind != api.CmdAssert && texts(Needs(world(), nil, x.c)) != x.want {
 			t.Error("needs", x)
 		}
-		if a := Tell(world(), nil, x.c); !reflect.DeepEqual(a, api.Answer{Err: x.err}) && !(x.err == api.OK && reflect.DeepEqual(a, api.Answer{Err: api.ErrOpen})) {
+		if a := Tell(world(), nil, x.c); !same(a, api.Answer{Err: x.err}) && !(x.err == api.OK && same(a, api.Answer{Err: api.ErrOpen})) {
 			t.Error("tell", x, a)
 		}
 	}
@@ -154,10 +159,10 @@ func TestTell(t *testing.T) {
 		{command(api.CmdAssert, "f.0", ""), no}, {command(api.CmdAssert, "f.2", ""), no},
 	} {
 		got := Tell(world(), table, x.c)
-		if got.Err != x.want.Err || got.Say != x.want.Say || got.At != 0 || got.Evals != 0 || !value.Same(got.Value, x.want.Value) || !reflect.DeepEqual(value.Clean(got.Value), got.Value) {
+		if !same(got, x.want) || !slices.Equal(value.Clean(got.Value).Set.Names, got.Value.Set.Names) || value.Clean(got.Value).Cong != got.Value.Cong {
 			t.Error(x, got)
 		}
-		if more := Tell(world(), append(table, side("f.0", live()), side("g", val(ptr(true)))), x.c); !reflect.DeepEqual(got, more) {
+		if more := Tell(world(), append(table, side("f.0", live()), side("g", val(ptr(true)))), x.c); !same(got, more) {
 			t.Error("more", x, more)
 		}
 	}

@@ -1,22 +1,23 @@
 package session_test
 
 import (
-	"reflect"
+	"slices"
 	"strings"
 	"testing"
 
 	"sondage/api"
+	"sondage/cell"
 	"sondage/cong"
 	"sondage/flow"
 	"sondage/key"
 	"sondage/names"
 	"sondage/post"
-	"sondage/print"
 	"sondage/query"
 	"sondage/run"
 	"sondage/sample"
 	. "sondage/session"
 	"sondage/span"
+	"sondage/store"
 	"sondage/value"
 )
 
@@ -52,7 +53,7 @@ func begin(t *testing.T, texts ...string) *Session {
 	t.Helper()
 	s := New()
 	for _, text := range texts {
-		if a := s.Do(edit(text)); !reflect.DeepEqual(a, api.Answer{}) {
+		if a := s.Do(edit(text)); !same(a, api.Answer{}) {
 			t.Fatal(text, a)
 		}
 	}
@@ -68,6 +69,24 @@ func texts(l []api.Key) string {
 }
 
 func between(lo, hi int) api.Value { return value.Int(span.Of(lo, hi), cong.All()) }
+
+// same compares answers; nil and empty lists are the same.
+func same(a, b api.Answer) bool {
+	return a.Err == b.Err && a.At == b.At && a.Say == b.Say && a.Evals == b.Evals && value.Same(a.Value, b.Value)
+}
+
+// text returns the text of a session's program.
+func text(s *Session) string {
+	st, _, _, err := store.Of(s.Program())
+	if err != api.OK {
+		panic("not valid")
+	}
+	return st.Text()
+}
+
+func sameTables(a, b []api.Side) bool {
+	return slices.EqualFunc(a, b, func(x, y api.Side) bool { return x.Key == y.Key && cell.Same(x.State, y.State) })
+}
 
 // P39.1 to P39.4
 func TestExample(t *testing.T) {
@@ -111,12 +130,12 @@ func TestEdits(t *testing.T) {
 		{edit("int f() { return 1; }"), api.Answer{}}, {edit("-f"), api.Answer{}}, {ask(api.CmdReach, "f.0", ""), api.Answer{Err: api.ErrNone}},
 		{edit("int main() { g = 6; return 2; }"), api.Answer{}}, {ask(api.CmdValue, "main.1", "g"), api.Answer{Say: api.SayYes, Value: value.Int(span.Of(0, 6), cong.Of(6, 0)), Evals: 8}},
 	} {
-		before, table, stable := s.Program(), s.Table(), s.Stable()
+		before, table, stable := text(s), s.Table(), s.Stable()
 		a := s.Do(x.c)
 		if a.Err != x.want.Err || a.At != x.want.At || a.Say != x.want.Say || !value.Same(a.Value, x.want.Value) || a.Evals != x.want.Evals {
 			t.Error(i, x.c, a)
 		}
-		if a.Err != api.OK && !(reflect.DeepEqual(before, s.Program()) && reflect.DeepEqual(table, s.Table()) && texts(stable) == texts(s.Stable())) {
+		if a.Err != api.OK && !(before == text(s) && sameTables(table, s.Table()) && texts(stable) == texts(s.Stable())) {
 			t.Error(i, "something has changed", x.c)
 		}
 	}
@@ -129,12 +148,12 @@ func TestBudget(t *testing.T) {
 		n   int
 		err api.Errno
 	}{{-1, api.ErrRange}, {0, api.ErrRange}, {api.MaxBudget + 1, api.ErrRange}, {api.MaxBudget, 0}, {1, 0}, {4, 0}} {
-		if a := s.Do(api.Command{Kind: api.CmdBudget, N: x.n}); !reflect.DeepEqual(a, api.Answer{Err: x.err}) {
+		if a := s.Do(api.Command{Kind: api.CmdBudget, N: x.n}); !same(a, api.Answer{Err: x.err}) {
 			t.Error(i, a)
 		}
 	}
 	for range 2 {
-		if a := s.Do(ask(api.CmdValue, "main.1", "")); !reflect.DeepEqual(a, api.Answer{Err: api.ErrBudget, Evals: 4}) || len(s.Stable()) > 0 {
+		if a := s.Do(ask(api.CmdValue, "main.1", "")); !same(a, api.Answer{Err: api.ErrBudget, Evals: 4}) || len(s.Stable()) > 0 {
 			t.Error(a)
 		}
 	}
@@ -165,7 +184,7 @@ func TestRounds(t *testing.T) {
 	for _, n := range []int{full.Evals - 1, full.Evals} {
 		again := begin(t, lines...)
 		again.Do(api.Command{Kind: api.CmdBudget, N: n})
-		if a := again.Do(c); n == full.Evals && !reflect.DeepEqual(a, full) || n < full.Evals && !reflect.DeepEqual(a, api.Answer{Err: api.ErrBudget, Evals: n}) {
+		if a := again.Do(c); n == full.Evals && !same(a, full) || n < full.Evals && !same(a, api.Answer{Err: api.ErrBudget, Evals: n}) {
 			t.Error(n, a)
 		}
 	}
@@ -179,7 +198,7 @@ func TestOf(t *testing.T) {
 	}
 	p := sample.Program(1, sample.Full())
 	s, err := Of(p)
-	if err != api.OK || !reflect.DeepEqual(s.Program(), p) || len(s.Table())+len(s.Stable()) > 0 {
+	if st, _, _, _ := store.Of(p); err != api.OK || text(s) != st.Text() || len(s.Table())+len(s.Stable()) > 0 {
 		t.Error(err)
 	}
 	if n := New(); len(n.Program().Funcs)+len(n.Program().Globals) > 0 {
@@ -191,7 +210,7 @@ func TestOf(t *testing.T) {
 func TestNil(t *testing.T) {
 	var s *Session
 	evals, kept := s.Parts()
-	if a := s.Do(edit("int g;")); !reflect.DeepEqual(a, api.Answer{Err: api.ErrNil}) || len(s.Program().Globals) > 0 || len(s.Table())+len(s.Stable()) > 0 || evals+kept+s.Share() != 0 {
+	if a := s.Do(edit("int g;")); !same(a, api.Answer{Err: api.ErrNil}) || len(s.Program().Globals) > 0 || len(s.Table())+len(s.Stable()) > 0 || evals+kept+s.Share() != 0 {
 		t.Error("nil")
 	}
 }
@@ -348,7 +367,7 @@ func TestSoundness(t *testing.T) {
 				for i, m := range moments(p, []int{input * 5, -3, 7 * seed, 1 << 62, -1 << 63}, 80) {
 					if i%5 == round {
 						if wrong := contradiction(s, m); wrong != "" {
-							t.Fatal(seed, round, input, wrong, print.Func(s.Program().Funcs[0]))
+							t.Fatal(seed, round, input, wrong, text(s))
 						}
 						seen++
 					}
@@ -413,11 +432,11 @@ func TestExactness(t *testing.T) {
 			m, was := reached[at]
 			a := s.Do(api.Command{Kind: api.CmdReach, Func: "main", Node: node})
 			if a.Err != api.OK || (a.Say == api.SayYes) != was {
-				t.Fatal(seed, at, a, was, print.Func(s.Program().Funcs[0]))
+				t.Fatal(seed, at, a, was, text(s))
 			}
 			for name, w := range m.locals {
 				if a := s.Do(api.Command{Kind: api.CmdValue, Func: "main", Node: node, Name: name}); !value.Same(a.Value, value.Num(w.N)) {
-					t.Fatal(seed, at, name, a, w, print.Func(s.Program().Funcs[0]))
+					t.Fatal(seed, at, name, a, w, text(s))
 				}
 			}
 		}
