@@ -180,6 +180,9 @@ func TestRefineInts(t *testing.T) {
 		for _, a := range values() {
 			for _, b := range values() {
 				x, y := Refine(op, a, b)
+				if (span.None(a.Span) || span.None(b.Span)) && !(value.None(x) && value.None(y)) {
+					t.Error("no ints", op, a, b, x, y)
+				}
 				if !value.Leq(x, a) || !value.Leq(y, b) || !equal(x, value.Reduce(x)) || !equal(y, value.Reduce(y)) {
 					t.Error("not less", op, a, b, x, y)
 				}
@@ -241,6 +244,8 @@ func TestRefinePointers(t *testing.T) {
 		{api.ExpNe, ptr(true, "a"), ptr(false, "a"), []string{"b", "a"}, ptr(true, "a"), ptr(false, "a")},
 		{api.ExpNe, ptr(true, "a"), ptr(true, "a"), nil, ptr(true, "a"), ptr(true, "a")},
 		{api.ExpNe, ptr(true), ptr(true), []string{""}, none, none},
+		{api.ExpNe, ptr(true, "a", "b", "c"), ptr(false, "b"), nil, ptr(true, "a", "c"), ptr(false, "b")},
+		{api.ExpNe, ptr(false, "b"), ptr(false, "a", "b"), []string{"a"}, ptr(false, "b"), ptr(false, "a")},
 		{api.ExpNe, ptr(true), none, nil, none, none},
 		{api.ExpLt, ptr(true), ptr(true), nil, none, none},
 		{api.ExpLe, ptr(true, "a"), ptr(true, "a"), nil, none, none},

@@ -161,6 +161,10 @@ func TestNamedResults(t *testing.T) {
 		{0, of(3, 0), one(0), false, api.Cong{}},
 		{api.ExpAdd, api.Cong{Some: true, M: -3, R: 5}, one(0), false, all},
 		{api.ExpAdd, api.Cong{Some: true, M: 4, R: 9}, one(0), false, of(4, 1)},
+		{api.ExpMul, api.Cong{Some: true, M: -3, R: 5}, one(4), false, of(4, 0)},
+		{api.ExpMul, one(4), api.Cong{Some: true, M: -3, R: 5}, false, of(4, 0)},
+		{api.ExpMul, of(7, 0), one(most / 7), false, of(most, 0)},
+		{api.ExpMul, of(7, 3), one(most/7 + 1), false, of(7, 3)},
 	} {
 		if c := Do(x.op, x.a, x.b, x.wraps); c != x.want {
 			t.Error(x, c)

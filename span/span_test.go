@@ -104,6 +104,8 @@ func TestWiden(t *testing.T) {
 		{api.Span{Lo: 1, Hi: 2}, api.Span{Some: true, Lo: 2, Hi: 1}, ladder, api.Span{}},
 		{Of(0, 5), Of(2, 3), ladder, Of(0, 5)},
 		{Of(0, 5), api.Span{}, ladder, Of(0, 5)},
+		{Of(0, 5), api.Span{Lo: -9, Hi: 9}, ladder, Of(0, 5)},
+		{Of(0, 5), api.Span{Some: true, Lo: 9, Hi: -9}, ladder, Of(0, 5)},
 		{Of(0, 5), Of(-1, 3), ladder, Of(-2, 5)},
 		{Of(0, 5), Of(-2, 5), ladder, Of(-2, 5)},
 		{Of(0, 5), Of(-3, 5), ladder, Of(-20, 5)},
