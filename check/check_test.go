@@ -22,7 +22,7 @@ func function(text string) api.Func {
 // world has globals of all kinds, and functions to call.
 func world() api.Program {
 	return api.Program{
-		Globals: []api.Global{{Name: "g"}, {Name: "gp", Ptr: true}, {Name: "ga", Size: 3}, {Name: "odd", Ptr: true, Size: 4}, {Name: "g", Size: 9}},
+		Globals: []api.Global{{Name: "g"}, {Name: "gp", Ptr: true}, {Name: "ga", Size: 3}, {Name: "odd", Ptr: true, Size: 4}, {Name: "g", Size: 9}, {Name: "one1", Size: 1}},
 		Funcs:   []api.Func{function("int one(int a) { }"), function("int two(int *p, int a) { }"), function("int none() { }"), function("int one(int *p) { }")},
 	}
 }
@@ -37,7 +37,7 @@ func TestType(t *testing.T) {
 		err  api.Errno
 	}{
 		{"1", Int, 0}, {"null", Ptr, 0}, {"x", Int, 0}, {"p", Ptr, 0}, {"i", Int, 0}, {"q", Ptr, 0}, {"g", Int, 0}, {"gp", Ptr, 0}, {"odd", Ptr, 0}, {"#ga", 0, api.ErrType}, {"#zz", 0, api.ErrNone}, {"#one", 0, api.ErrNone},
-		{"ga[x]", Int, 0}, {"#g[x]", 0, api.ErrType}, {"#x[1]", 0, api.ErrType}, {"#p[1]", 0, api.ErrType}, {"#odd[1]", 0, api.ErrType}, {"#zz[1]", 0, api.ErrNone}, {"ga[#p]", 0, api.ErrType}, {"zz[#p]", 0, api.ErrType}, {"zz[#ga]", 0, api.ErrType},
+		{"ga[x]", Int, 0}, {"one1[x]", Int, 0}, {"#one1", 0, api.ErrType}, {"#g[x]", 0, api.ErrType}, {"#x[1]", 0, api.ErrType}, {"#p[1]", 0, api.ErrType}, {"#odd[1]", 0, api.ErrType}, {"#zz[1]", 0, api.ErrNone}, {"ga[#p]", 0, api.ErrType}, {"zz[#p]", 0, api.ErrType}, {"zz[#ga]", 0, api.ErrType},
 		{"*p", Int, 0}, {"*gp", Int, 0}, {"*odd", Int, 0}, {"#*x", 0, api.ErrType}, {"#*g", 0, api.ErrType}, {"#*ga", 0, api.ErrType}, {"#*zz", 0, api.ErrNone},
 		{"&g", Ptr, 0}, {"#&x", 0, api.ErrType}, {"#&p", 0, api.ErrType}, {"#&gp", 0, api.ErrType}, {"#&ga", 0, api.ErrType}, {"#&odd", 0, api.ErrType}, {"#&zz", 0, api.ErrNone},
 		{"&ga[x]", Ptr, 0}, {"#&g[0]", 0, api.ErrType}, {"#&x[0]", 0, api.ErrType}, {"#&zz[0]", 0, api.ErrNone}, {"&ga[#null]", 0, api.ErrType},
@@ -68,7 +68,7 @@ func TestStrangeExpressions(t *testing.T) {
 	num := api.Expr{Op: api.ExpNum, At: 5}
 	two := []api.Expr{num, num}
 	for _, e := range []api.Expr{
-		{}, {Op: -1}, {Op: 21}, {Op: api.ExpNum, Kids: two[:1]}, {Op: api.ExpVar, Name: "zz", Kids: two}, {Op: api.ExpIndex, Name: "ga"}, {Op: api.ExpIndex, Name: "ga", Kids: two}, {Op: api.ExpLoad, Name: "p", Kids: two[:1]}, {Op: api.ExpNeg}, {Op: api.ExpNot, Kids: two},
+		{}, {Op: -1}, {Op: 21}, {Op: 21, Kids: two}, {Op: -1, Kids: two}, {Op: 99, Kids: two}, {Op: api.ExpNum, Kids: two[:1]}, {Op: api.ExpVar, Name: "zz", Kids: two}, {Op: api.ExpIndex, Name: "ga"}, {Op: api.ExpIndex, Name: "ga", Kids: two}, {Op: api.ExpLoad, Name: "p", Kids: two[:1]}, {Op: api.ExpNeg}, {Op: api.ExpNot, Kids: two},
 		{Op: api.ExpAdd, Kids: two[:1]}, {Op: api.ExpOr, Kids: append(two, num)}, {Op: api.ExpNull, Kids: two[:1]}, {Op: api.ExpAddr, Name: "g", Kids: two}, {Op: api.ExpAddrAt, Name: "ga"}, {Op: api.ExpEq}, {Op: api.ExpMul, Kids: []api.Expr{{Op: 99, At: 1}}},
 	} {
 		e.At = 42

@@ -112,7 +112,7 @@ func TestStrangeExpressions(t *testing.T) {
 	m, f := world()
 	one := api.Expr{Op: api.ExpNum, N: 1}
 	for _, e := range []api.Expr{
-		{}, {Op: -1}, {Op: 21}, {Op: api.ExpNum, Kids: []api.Expr{one}}, {Op: api.ExpVar, Name: "zz", Kids: []api.Expr{one}}, {Op: api.ExpIndex, Name: "zz"}, {Op: api.ExpIndex, Name: "a", Kids: []api.Expr{one, one}}, {Op: api.ExpNeg}, {Op: api.ExpAdd, Kids: []api.Expr{one}}, {Op: api.ExpEq, Kids: []api.Expr{one, one, one}}, {Op: api.ExpAddrAt, Name: "a"}, {Op: api.ExpNot, Kids: []api.Expr{{Op: 99}}},
+		{}, {Op: -1}, {Op: 21}, {Op: 21, Kids: []api.Expr{{Op: api.ExpVar, Name: "zz"}, one}}, {Op: -1, Kids: []api.Expr{{Op: api.ExpVar, Name: "zz"}, one}}, {Op: 0, Kids: []api.Expr{{Op: api.ExpNull}, one}}, {Op: api.ExpNum, Kids: []api.Expr{one}}, {Op: api.ExpVar, Name: "zz", Kids: []api.Expr{one}}, {Op: api.ExpIndex, Name: "zz"}, {Op: api.ExpIndex, Name: "a", Kids: []api.Expr{one, one}}, {Op: api.ExpNeg}, {Op: api.ExpAdd, Kids: []api.Expr{one}}, {Op: api.ExpEq, Kids: []api.Expr{one, one, one}}, {Op: api.ExpAddrAt, Name: "a"}, {Op: api.ExpNot, Kids: []api.Expr{{Op: 99}}},
 	} {
 		if w, err := Expr(m, f, e); w != (api.Word{}) || err != api.ErrArg {
 			t.Error(e, w, err)

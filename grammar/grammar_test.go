@@ -41,7 +41,7 @@ func TestGlobals(t *testing.T) {
 		{"int a[1000];", api.Global{Name: "a", Size: 1000}, 0, api.OK},
 		{"int a[1];", api.Global{Name: "a", Size: 1}, 0, api.OK},
 		{"int a[0];", api.Global{}, 6, api.ErrRange}, {"int a[1001]", api.Global{}, 6, api.ErrRange}, {"int a[x];", api.Global{}, 6, api.ErrForm}, {"int a[-1];", api.Global{}, 6, api.ErrForm}, {"int a[1;", api.Global{}, 7, api.ErrForm},
-		{"int *p[3];", api.Global{}, 6, api.ErrForm}, {"int g", api.Global{}, 5, api.ErrForm}, {"int", api.Global{}, 3, api.ErrForm}, {"g;", api.Global{}, 0, api.ErrForm}, {"", api.Global{}, 0, api.ErrForm}, {"int int;", api.Global{}, 4, api.ErrForm}, {"int g; int", api.Global{}, 7, api.ErrForm}, {"int g = 3;", api.Global{}, 6, api.ErrForm},
+		{"int *p[3];", api.Global{}, 6, api.ErrForm}, {"int g", api.Global{}, 5, api.ErrForm}, {"int", api.Global{}, 3, api.ErrForm}, {"int ;", api.Global{}, 4, api.ErrForm}, {"g;", api.Global{}, 0, api.ErrForm}, {"", api.Global{}, 0, api.ErrForm}, {"int int;", api.Global{}, 4, api.ErrForm}, {"int g; int", api.Global{}, 7, api.ErrForm}, {"int g = 3;", api.Global{}, 6, api.ErrForm},
 		{"int a[0] #", api.Global{}, 9, api.ErrForm},
 	} {
 		if g, at, err := GlobalText([]byte(x.text)); g != x.g || at != x.at || err != x.err {
@@ -86,7 +86,7 @@ func TestFunction(t *testing.T) {
 // P13.1: the first error from left to right; the offset is where # stands.
 func TestForms(t *testing.T) {
 	for _, text := range []string{
-		"#", "int #", "int #3", "int f #", "int f#;", "int f(#", "int f(#,)", "int f(int #)", "int f(int a #", "int f(int a,#) {}", "int f(int a #int b) {}", "int f() #", "int f() #;", "int f() {#", "int f() {} #int",
+		"#", "#f() { }", "int f(#a) { }", "int f() { *#= 1; }", "int f() { *#if (x) { } }", "int f() { x #3; }", "int f() { x #y = 3; }", "int f() { if (x) #else { } }", "int f() { while (x) #y = 1; }", "int #", "int #3", "int f #", "int f#;", "int f(#", "int f(#,)", "int f(int #)", "int f(int a #", "int f(int a,#) {}", "int f(int a #int b) {}", "int f() #", "int f() #;", "int f() {#", "int f() {} #int",
 		"int f() { int #; }", "int f() { int x #= 3; }", "int f() { int x; x = 1; #int y; }", "int f() { int *#*x; }", "int f() { #; }", "int f() { x #; }", "int f() { x = #; }", "int f() { x = 1 #}", "int f() { x = y z; }"[:16] + " #z; }",
 		"int f() { x[#] = 1; }", "int f() { x[1 #= 1; }", "int f() { x[1] #; }", "int f() { x[1] = 1 #}", "int f() { *#3 = 1; }", "int f() { *x #; }", "int f() { *x = #; }", "int f() { *x#[1] = 2; }",
 		"int f() { g(#; }", "int f() { g(1 #; }", "int f() { g(1, #) ; }", "int f() { g() #}", "int f() { x = g(1#; }", "int f() { x = g() #+ 1; }", "int f() { x = 1 + g#(); }", "int f() { x = input #; }", "int f() { x = input(#1); }", "int f() { x = input() #}", "int f() { #input(); }",
@@ -133,6 +133,7 @@ func TestLimits(t *testing.T) {
 		{"int f(" + vars(10, ",") + ") {" + vars(6, ";") + "; x = 1; }", "", api.OK},
 		{"int f() {" + vars(17, ";") + "; }", "v16", api.ErrMany},
 		{deep(24), "", api.OK},
+		{"int f() {" + strings.Repeat("if (x) { } else { } while (x) { }", 30) + "}", "", api.OK},
 		{deep(25), strings.Repeat("{if(x)", 24)[1:], api.ErrDeep},
 		{"int f() { x = " + strings.Repeat("-", 24) + "y; }", "-", api.ErrDeep},
 		{size(800), "", api.OK},
@@ -182,6 +183,16 @@ func TestAmongTokens(t *testing.T) {
 			t.Error(i, at, err)
 		}
 		if _, at, err := Global(l, i); at != i || err != api.ErrForm {
+			t.Error(i, at, err)
+		}
+	}
+	bad, _, _ := token.Read([]byte("int a[1;"))
+	if _, at, err := Global(bad, 0); at != 4 || err != api.ErrForm {
+		t.Error(at, err)
+	}
+	call, _, _ := token.Read([]byte("int f() { g(); x = g(); }"))
+	for i := range len(call) - 1 {
+		if _, at, err := Func(call[:i], 0); at != i || err != api.ErrForm {
 			t.Error(i, at, err)
 		}
 	}

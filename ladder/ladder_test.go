@@ -57,6 +57,8 @@ func TestOf(t *testing.T) {
 		{api.Program{Funcs: []api.Func{{Body: body(10, 20)}, {Body: body(10, -7)}}}, []int{-8, -7, -6, -1, 0, 1, 9, 10, 11, 19, 20, 21}},
 		{api.Program{Funcs: []api.Func{{Body: body(least, most)}}}, []int{least, least + 1, -1, 0, 1, most - 1, most}},
 		{api.Program{Globals: []api.Global{{Name: "a", Size: 5}, {Name: "b", Size: -9}, {Name: "c"}, {Name: "d", Ptr: true, Size: 50}}}, []int{-1, 0, 1, 4, 5, 49, 50}},
+		{api.Program{Funcs: []api.Func{{Body: body(least)}}}, []int{least, least + 1, -1, 0, 1}},
+		{api.Program{Funcs: []api.Func{{Body: body(most)}}}, []int{-1, 0, 1, most - 1, most}},
 		{api.Program{Globals: []api.Global{{Name: "a", Size: 1}}}, []int{-1, 0, 1}},
 	} {
 		if got := Of(x.p); !slices.Equal(got, x.want) {

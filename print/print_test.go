@@ -1,6 +1,7 @@
 package print_test
 
 import (
+	"strings"
 	"testing"
 
 	"sondage/api"
@@ -46,6 +47,31 @@ func TestExpr(t *testing.T) {
 	} {
 		if got := Expr(x.e); got != x.want {
 			t.Errorf("%v: %q, not %q", x.e, got, x.want)
+		}
+	}
+}
+
+// Parentheses stand where the text would be another expression without them, and nowhere else.
+func TestParentheses(t *testing.T) {
+	a, b, c := ident("a"), ident("b"), ident("c")
+	for k := api.ExpMul; k <= api.ExpOr; k++ {
+		for l := api.ExpMul; l <= api.ExpOr; l++ {
+			for _, e := range []api.Expr{op(k, op(l, a, b), c), op(k, a, op(l, b, c))} {
+				text := Expr(e)
+				again, _, err := parse.Text([]byte(text))
+				if err != api.OK || !tree.Same(e, again) {
+					t.Error(k, l, text, err)
+				}
+				bare, _, _ := parse.Text([]byte(strings.NewReplacer("(", "", ")", "").Replace(text)))
+				if strings.Contains(text, "(") == tree.Same(e, bare) {
+					t.Error(k, l, text)
+				}
+			}
+		}
+		for _, e := range []api.Expr{op(api.ExpNeg, op(k, a, b)), op(api.ExpNot, op(k, a, b))} {
+			if text := Expr(e); !strings.HasSuffix(text, "b)") {
+				t.Error(text)
+			}
 		}
 	}
 }
@@ -118,7 +144,7 @@ func TestGlobal(t *testing.T) {
 		g    api.Global
 		want string
 	}{
-		{api.Global{Name: "g"}, "int g;\n"}, {api.Global{Name: "p", Ptr: true}, "int *p;\n"}, {api.Global{Name: "a", Size: 7}, "int a[7];\n"}, {api.Global{Name: "g", Size: -1}, "int g;\n"}, {api.Global{Name: "p", Ptr: true, Size: 3}, "int *p;\n"},
+		{api.Global{Name: "g"}, "int g;\n"}, {api.Global{Name: "p", Ptr: true}, "int *p;\n"}, {api.Global{Name: "a", Size: 7}, "int a[7];\n"}, {api.Global{Name: "a", Size: 1}, "int a[1];\n"}, {api.Global{Name: "g", Size: -1}, "int g;\n"}, {api.Global{Name: "p", Ptr: true, Size: 3}, "int *p;\n"},
 	} {
 		if got := Global(x.g); got != x.want {
 			t.Errorf("%v: %q", x.g, got)

@@ -24,6 +24,8 @@ func TestRead(t *testing.T) {
 	}
 	for _, x := range []struct{ text, joined string }{
 		{"", ""},
+		{"==", "== "},
+		{"a z A Z _ zzZZ09", "a z A Z _ zzZZ09 "},
 		{" \t\r\n", ""},
 		{"a==b!=c<=d&&e||f", "a == b != c <= d && e || f "},
 		{"(){}[];,=<+-*/%!&", "( ) { } [ ] ; , = < + - * / % ! & "},
@@ -40,7 +42,7 @@ func TestRead(t *testing.T) {
 		for _, k := range l[:len(l)-1] {
 			isWord := strings.Contains(" int if else while return assert input null ", " "+k.Text+" ")
 			kind := api.TokMark
-			if !isWord && strings.Contains("_abcdefghijklmnopqrstuvwxyzI", k.Text[:1]) {
+			if !isWord && strings.Contains("_abcdefghijklmnopqrstuvwxyzIAZ", k.Text[:1]) {
 				kind = api.TokName
 			} else if k.Text[0] >= '0' && k.Text[0] <= '9' {
 				kind = api.TokNum
@@ -85,12 +87,12 @@ func TestErrors(t *testing.T) {
 
 // P10.2
 func TestNames(t *testing.T) {
-	for _, s := range []string{"x", "_", "Zz9", "_0", name20(), "int1", "Null"} {
+	for _, s := range []string{"x", "a", "z", "A", "Z", "a0", "a9", "_", "Zz9", "_0", name20(), "int1", "Null"} {
 		if !Name(s) || Word(s) {
 			t.Error(s)
 		}
 	}
-	for _, s := range []string{"", "1x", "x y", "x-", "é", "aé", name20() + "x", "x\n"} {
+	for _, s := range []string{"", "1x", "@", "[", "`", "{", "/", ":", "a@", "a[", "a`", "a{", "a/", "a:", "x y", "x-", "é", "aé", name20() + "x", "x\n"} {
 		if Name(s) || Word(s) {
 			t.Error(s)
 		}
