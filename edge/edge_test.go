@@ -1,6 +1,7 @@
 package edge_test
 
 import (
+	"slices"
 	"strings"
 	"testing"
 
@@ -46,7 +47,7 @@ func world() look.Room {
 			Globals: []api.Global{{Name: "g"}, {Name: "h"}, {Name: "a", Size: 3}, {Name: "u"}, {Name: "w"}, {Name: "gp", Ptr: true}},
 			Funcs:   []api.Func{function("int f(int n, int *q) { int i; return n; }"), function("int dead() { }"), function("int lost() { }"), function("int odd() { }"), function("int f() { }")},
 		},
-		Env:   api.Env{Live: true, Binds: []api.Bind{bind("x", between(0, 9)), bind("p", ptr(true, "h", "g", "no")), bind("none", ptr(true)), bind("void", api.Value{})}},
+		Env:   api.Env{Live: true, Binds: []api.Bind{bind("x", between(0, 9)), bind("p", ptr(true, "h", "g", "no")), bind("none", ptr(true)), bind("void", api.Value{}), bind("bad", ptr(false, "no"))}},
 		Known: []api.Side{known("g", between(2, 4)), known("h", value.Num(7)), known("a", between(0, 1)), known("gp", ptr(false, "h")), end("f", live(bind("", between(5, 6)))), end("dead", api.Env{}), end("odd", live()), end("nowhere", live(bind("", value.Num(1))))},
 	}
 }
@@ -125,7 +126,7 @@ func TestPass(t *testing.T) {
 		{edge(api.EdgeAssert, "", "g < x"), e, "g", nil}, {edge(api.EdgeAssert, "", "0"), e, "", nil}, {edge(api.EdgeAssert, "", "1 / 0"), none, "", nil}, {edge(api.EdgeAssert, ""), none, "", nil}, {edge(api.EdgeAssert, "", "u"), none, "wants u", nil},
 		{edge(api.EdgeReturn, "x", "x + g"), result(between(2, 13)), "g", nil}, {edge(api.EdgeReturn, "", "1 % 0"), none, "", nil}, {edge(api.EdgeReturn, ""), none, "", nil},
 		{edge(api.EdgePut, "a", "x", "g"), e, "g", []api.Side{known("a", between(2, 4))}}, {edge(api.EdgePut, "a", "x + 3", "g"), none, "g", nil}, {edge(api.EdgePut, "a", "x + 2", "1"), e, "", []api.Side{known("a", value.Num(1))}}, {edge(api.EdgePut, "zz", "0", "1"), none, "", nil}, {edge(api.EdgePut, "g", "0", "1"), e, "", []api.Side{known("g", value.Num(1))}}, {edge(api.EdgePut, "a", "1 / 0", "g"), none, "g", nil}, {edge(api.EdgePut, "a", "0", "void"), none, "", nil}, {edge(api.EdgePut, "a", "h", "u"), none, "h wants u", nil}, {edge(api.EdgePut, "a", "0"), none, "", nil},
-		{edge(api.EdgeStore, "p", "x"), e, "", []api.Side{known("g", between(0, 9)), known("h", between(0, 9))}}, {edge(api.EdgeStore, "gp", "g"), e, "g gp", []api.Side{known("h", between(2, 4))}}, {edge(api.EdgeStore, "none", "g"), none, "g", nil}, {edge(api.EdgeStore, "x", "1"), none, "", nil}, {edge(api.EdgeStore, "zz", "1"), none, "", nil}, {edge(api.EdgeStore, "gp", "1 / 0"), none, "", nil}, {edge(api.EdgeStore, "u", "g"), none, "g wants u", nil}, {edge(api.EdgeStore, "p", "1", "2"), none, "", nil},
+		{edge(api.EdgeStore, "p", "x"), e, "", []api.Side{known("g", between(0, 9)), known("h", between(0, 9))}}, {edge(api.EdgeStore, "gp", "g"), e, "g gp", []api.Side{known("h", between(2, 4))}}, {edge(api.EdgeStore, "none", "g"), none, "g", nil}, {edge(api.EdgeStore, "bad", "g"), none, "g", nil}, {edge(api.EdgeStore, "x", "1"), none, "", nil}, {edge(api.EdgeStore, "zz", "1"), none, "", nil}, {edge(api.EdgeStore, "gp", "1 / 0"), none, "", nil}, {edge(api.EdgeStore, "u", "g"), none, "g wants u", nil}, {edge(api.EdgeStore, "p", "1", "2"), none, "", nil},
 		{call("f", "x", "x", "p"), with("x", between(5, 6)), "f.1", []api.Side{begin(between(0, 9), ptr(true, "g", "h", "no"))}}, {call("f", "", "g", "null"), e, "g f.1", []api.Side{begin(between(2, 4), ptr(true))}}, {call("f", "g", "1", "null"), e, "f.1", []api.Side{begin(value.Num(1), ptr(true)), known("g", between(5, 6))}}, {call("f", "zz", "1", "null"), none, "f.1", []api.Side{begin(value.Num(1), ptr(true))}}, {call("f", "x"), with("x", between(5, 6)), "f.1", []api.Side{begin(value.Num(0), ptr(true))}},
 		{call("f", "x", "1 / 0", "g"), none, "g", nil}, {call("f", "x", "u", "g"), none, "wants u", nil}, {call("lost", "x", "g"), none, "g wants lost.1", nil}, {call("dead", "x"), none, "dead.1", []api.Side{{Key: api.Key{Name: "dead"}, State: api.State{Env: live()}}}}, {call("dead", ""), none, "dead.1", []api.Side{{Key: api.Key{Name: "dead"}, State: api.State{Env: live()}}}}, {call("odd", "x"), none, "odd.1", []api.Side{{Key: api.Key{Name: "odd"}, State: api.State{Env: live()}}}}, {call("odd", ""), e, "odd.1", []api.Side{{Key: api.Key{Name: "odd"}, State: api.State{Env: live()}}}}, {call("nowhere", "x"), none, "nowhere.1", nil}, {call("zz", "x", "g"), none, "g wants zz.1", nil},
 	} {
@@ -135,6 +136,9 @@ func TestPass(t *testing.T) {
 		}
 		if out.Env.Live != x.env.Live || !env.Same(out.Env, x.env) || len(out.Env.Binds) != len(x.env.Binds) {
 			t.Error(i, x.x, out.Env)
+		}
+		if !slices.IsSortedFunc(out.Env.Binds, func(a, b api.Bind) int { return strings.Compare(a.Name, b.Name) }) {
+			t.Error(i, x.x, "not clean", out.Env)
 		}
 		if !sameSides(out.Sides, x.sides) {
 			t.Error(i, x.x, out.Sides)

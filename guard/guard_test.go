@@ -77,6 +77,7 @@ func TestExamples(t *testing.T) {
 		{"x < 2 && 5 < x", nil, same, ""}, {"(x < 3) + 0", same, same, ""}, {"(x < 3) == 1", same, same, ""},
 		{"x == g", binds{"x": between(2, 4)}, same, "g"}, {"g < 3", same, same, "g"}, {"x < g + g && g < y", binds{"x": between(0, 7)}, same, "g"}, {"h", nil, same, "h"}, {"g == 9", nil, same, "g"}, {"g && h", nil, same, "g h"}, {"u", nil, nil, "wants u"}, {"g + u", nil, nil, "g wants u"}, {"g < u && w", nil, nil, "g wants u"}, {"x < 3 || g == u", nil, nil, "g wants u"}, {"u == w", nil, nil, "wants u"},
 		{"p == null", binds{"p": ptr(true)}, binds{"p": ptr(false, "g", "h")}, ""}, {"p != q", binds{"p": ptr(true, "h")}, binds{"p": ptr(false, "g")}, ""}, {"null == q", nil, same, ""}, {"q", nil, nil, ""}, {"r == &a[0]", binds{"r": ptr(false, "a")}, same, ""}, {"q == &g", same, nil, ""}, {"p == &h", binds{"p": ptr(false, "h")}, binds{"p": ptr(true, "g")}, ""},
+		{"*q < 3", same, same, "g"}, {"*q == a[0]", nil, same, "g a"},
 		{"zz", nil, nil, ""}, {"x == zz", nil, nil, ""}, {"x < x", binds{"x": between(1, 9)}, binds{"x": between(0, 9)}, ""}, {"x < x + 1", same, binds{"x": between(1, 9)}, ""},
 	} {
 		for _, truth := range []bool{true, false} {
@@ -101,7 +102,7 @@ func TestExamples(t *testing.T) {
 					t.Error(x.text, truth, b.Name, env.Get(got.Env, b.Name), v)
 				}
 			}
-			if c := env.Clean(got.Env); len(c.Binds) != len(got.Env.Binds) || got.Env.Live && !slices.IsSortedFunc(got.Env.Binds, func(a, b api.Bind) int { return strings.Compare(a.Name, b.Name) }) {
+			if c := env.Clean(got.Env); got.Env.Live && len(c.Binds) != len(world().Env.Binds) || len(c.Binds) != len(got.Env.Binds) || got.Env.Live && !slices.IsSortedFunc(got.Env.Binds, func(a, b api.Bind) int { return strings.Compare(a.Name, b.Name) }) {
 				t.Error("not clean", got)
 			}
 		}
@@ -129,6 +130,20 @@ func TestNotLive(t *testing.T) {
 		t.Error(l)
 	}
 	if l := Test(world(), expr("0 && u"), false); !l.Wants || l.Env.Live || len(l.Env.Binds) > 0 {
+		t.Error(l)
+	}
+}
+
+// P24.1: what can hold by the bounds alone may leave nothing of one side.
+func TestNothingLeft(t *testing.T) {
+	r := world()
+	r.Env = api.Env{Live: true, Binds: []api.Bind{{Name: "x", V: api.Value{Span: span.Of(0, 4), Cong: cong.Of(4, 3)}}, {Name: "y", V: between(0, 4)}}}
+	for _, text := range []string{"x < 2", "2 == x", "y < 4 && x < y - 1"} {
+		if l := Test(r, expr(text), true); l.Env.Live || len(l.Env.Binds) > 0 {
+			t.Error(text, l)
+		}
+	}
+	if l := Test(r, expr("x < 4"), true); !value.Same(env.Get(l.Env, "x"), value.Num(3)) {
 		t.Error(l)
 	}
 }

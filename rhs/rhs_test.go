@@ -180,6 +180,15 @@ func TestSides(t *testing.T) {
 	}
 }
 
+// P28.2: each unknown is among the Gets once, where it was first read.
+func TestGetsOnce(t *testing.T) {
+	p := program("int g;", "int h;", "int main() { if (g) { return h + g; } return g + h; }")
+	l := []api.Side{known("main.2", live()), known("main.5", live()), known("main.6", live()), known("g", api.State{Val: value.Num(1)}), known("h", api.State{Val: value.Num(2)})}
+	if r := New(p).Eval(l, k("main.1")); texts(r.Gets) != "main.2 h g main.5 main.6" || r.Wants {
+		t.Error(texts(r.Gets), r.Want)
+	}
+}
+
 // P28.3: the result depends only on what was read.
 func TestOnlyWhatIsRead(t *testing.T) {
 	p := program("int g;", "int main() { int x; x = g; return x; }")

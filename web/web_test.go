@@ -87,7 +87,6 @@ func TestCleanKeys(t *testing.T) {
 	w := New()
 	odd := func(name string) api.Key { return api.Key{Name: name, Node: -8} }
 	w.Add(odd("x"), odd("y"))
-	w.Add(k("x"), k("y"))
 	if l := w.On(odd("x")); len(l) != 1 || l[0] != k("y") {
 		t.Error(l)
 	}
