@@ -77,7 +77,7 @@ func TestDomain(t *testing.T) {
 		want  string
 		ok    bool
 	}{
-		{full, "main.1", "main.0 main.1 main.2", true}, {full, "main.0", "main.0", true}, {full, "main.1 main.1 g", "g main.0 main.1 main.2", true}, {full, "", "", true}, {full, "zz", "", false}, {full, "main.2 zz", "", false},
+		{full, "main.1", "main.0 main.1 main.2", true}, {full, "main.0", "main.0", true}, {full, "main.1 main.1 g", "g main.0 main.1 main.2", true}, {full, "", "", true}, {full, "zz", "", false}, {full, "main.2 zz", "", false}, {full, "a main.2", "", false}, {full, "a b c main.2", "", false},
 		{full[1:2], "main.1", "", false}, {full[:2], "main.1", "", false}, {full[:1], "main.1", "", false}, {full[:1], "main.0", "main.0", true}, {nil, "main.0", "", false}, {nil, "", "", true},
 	} {
 		if l, ok := Domain(three, x.table, keys(x.l)); texts(l) != x.want || ok != x.ok {

@@ -33,8 +33,8 @@ func program(lines ...string) api.Program {
 // world: f has the nodes 0, 1, 2 (after the first assertion), 3 and 4; b and odd are shadowed or strange.
 func world() api.Program {
 	p := program("int g;", "int *gp;", "int a[3];", "int b;", "int f(int x, int *p) { int y; assert(x < g); assert(a[y] == *gp); return x; }", "int main() { }")
-	p.Globals = append(p.Globals, api.Global{Name: "odd", Ptr: true, Size: 4}, api.Global{Name: "g", Size: 4}, api.Global{Name: "y", Ptr: true})
-	p.Funcs = append(p.Funcs, api.Func{Name: "f"})
+	p.Globals = append(p.Globals, api.Global{Name: "odd", Ptr: true, Size: 4}, api.Global{Name: "g", Size: 4}, api.Global{Name: "y", Ptr: true}, api.Global{Name: "single", Size: 1})
+	p.Funcs = append(p.Funcs, api.Func{Name: "f"}, api.Func{Name: "odd", Body: []api.Stmt{{Op: api.StAssert}}})
 	return p
 }
 
@@ -90,7 +90,7 @@ func TestKeys(t *testing.T) {
 		{command(api.CmdWhole, "", "g"), "g", 0}, {command(api.CmdWhole, "zz.5", "a"), "a", 0}, {command(api.CmdWhole, "", "x"), "", api.ErrNone}, {command(api.CmdWhole, "", ""), "", api.ErrNone},
 		{command(0, "f.0", "x"), "", api.ErrArg}, {command(api.CmdFunc, "f.0", "x"), "", api.ErrArg}, {command(api.CmdBudget, "zz.0", "x"), "", api.ErrArg}, {command(99, "f.0", "x"), "", api.ErrArg}, {command(-1, "f.0", "x"), "", api.ErrArg}, {command(api.CmdDrop, "", "g"), "", api.ErrArg},
 		{command(api.CmdReach, "f.0", ""), "f.0", 0}, {command(api.CmdReach, "f.4", "zz"), "f.4", 0}, {command(api.CmdReach, "f.5", ""), "", api.ErrRange}, {api.Command{Kind: api.CmdReach, Func: "f", Node: -1}, "", api.ErrRange}, {command(api.CmdReach, "zz.0", ""), "", api.ErrNone}, {command(api.CmdReach, "g.0", ""), "", api.ErrNone},
-		{command(api.CmdAssert, "f.0", ""), "f.0", 0}, {command(api.CmdAssert, "f.2", "zz"), "f.2", 0}, {command(api.CmdAssert, "f.3", ""), "", api.ErrNone}, {command(api.CmdAssert, "f.1", ""), "", api.ErrNone}, {command(api.CmdAssert, "f.9", ""), "", api.ErrRange}, {command(api.CmdAssert, "zz.9", ""), "", api.ErrNone},
+		{command(api.CmdAssert, "f.0", ""), "f.0", 0}, {command(api.CmdAssert, "f.2", "zz"), "f.2", 0}, {command(api.CmdAssert, "f.3", ""), "", api.ErrNone}, {command(api.CmdAssert, "odd.0", ""), "", api.ErrNone}, {command(api.CmdValue, "f.1", "single"), "", api.ErrType}, {command(api.CmdWhole, "", "single"), "single", 0}, {command(api.CmdAssert, "f.1", ""), "", api.ErrNone}, {command(api.CmdAssert, "f.9", ""), "", api.ErrRange}, {command(api.CmdAssert, "zz.9", ""), "", api.ErrNone},
 		{command(api.CmdValue, "f.1", ""), "f.1", 0}, {command(api.CmdValue, "f.0", ""), "", api.ErrNone}, {command(api.CmdValue, "f.9", ""), "", api.ErrRange},
 		{command(api.CmdValue, "f.0", "x"), "f.0", 0}, {command(api.CmdValue, "f.2", "p"), "f.2", 0}, {command(api.CmdValue, "f.2", "y"), "f.2", 0}, {command(api.CmdValue, "f.1", "x"), "", api.ErrNone}, {command(api.CmdValue, "f.1", "y"), "", api.ErrNone}, {command(api.CmdValue, "f.0", "zz"), "", api.ErrNone}, {command(api.CmdValue, "f.9", "zz"), "", api.ErrRange}, {command(api.CmdValue, "main.0", "x"), "", api.ErrNone},
 		{command(api.CmdValue, "f.0", "g"), "f.0 g", 0}, {command(api.CmdValue, "f.1", "g"), "f.1 g", 0}, {command(api.CmdValue, "f.2", "gp"), "f.2 gp", 0}, {command(api.CmdValue, "f.2", "a"), "", api.ErrType}, {command(api.CmdValue, "f.2", "odd"), "f.2 odd", 0}, {command(api.CmdValue, "main.1", "y"), "main.1 y", 0},

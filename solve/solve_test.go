@@ -116,6 +116,37 @@ func TestLoopSteps(t *testing.T) {
 	}
 }
 
+// P33.1: an unknown may be on the stack twice, and stays there when it is popped once.
+func TestTwice(t *testing.T) {
+	s := New(program("int main() { return 3; }"))
+	s.Push(k("main.0"))
+	s.Push(k("main.0"))
+	s.Step()
+	s.Step()
+	if s.Evals() != 1 || texts(s.Stable()) != "main.0" {
+		t.Error(s.Evals(), texts(s.Stable()))
+	}
+	s.Push(k("main.1"))
+	for s.Step() == api.OK {
+	}
+	if texts(s.Points()) != "main.0" || texts(s.Stable()) != "main.0 main.1 main.2" {
+		t.Error(texts(s.Points()), "/", texts(s.Stable()))
+	}
+	s.Push(api.Key{Name: "g", Node: -8})
+	if table := s.Table(); table[0].Key != (api.Key{Name: "g", Node: -1}) || s.Step() != api.OK || !key.Has(s.Stable(), k("g")) {
+		t.Error("a key that is not clean", table)
+	}
+}
+
+// P33.1: only points are widened: what is computed from a loop's variable has its exact bounds.
+func TestOnlyPointsAreWidened(t *testing.T) {
+	s := New(program("int main() { int x; int y; while (x < 10) { y = x + x; x = x + 2; } return y; }"))
+	s.Ask([]api.Key{k("main.1")}, plenty)
+	if v := of(s, "main.5", "y"); !value.Same(v, value.Int(span.Of(0, 16), cong.Of(2, 0))) || texts(s.Points()) == "" || key.Has(s.Points(), k("main.5")) {
+		t.Error(v, texts(s.Points()))
+	}
+}
+
 // P33.1, P33.2: what main returns, with the examples of the document.
 func TestResults(t *testing.T) {
 	between := func(lo, hi int) api.Value { return value.Int(span.Of(lo, hi), cong.All()) }
@@ -365,6 +396,48 @@ func TestRestore(t *testing.T) {
 	s.Move(program(lines...))
 	if len(s.Stable()) > 0 || s.Step() != api.ErrEnd || tableText(s) != "f.0 f.1 f.2 main.0 main.1 main.2 main.3" {
 		t.Error(texts(s.Stable()), tableText(s))
+	}
+}
+
+// P33.3: what was forgotten begins anew, as in a new solver.
+func TestForgotten(t *testing.T) {
+	p := program("int main() { int x; int c; c = input(); while (c) { x = x + 1; c = input(); } return x; }")
+	q := program("int main() { int x; int c; c = input(); while (c) { x = 7 * 7 - x; c = input(); } return x; }")
+	s, fresh := New(p), New(q)
+	l := []api.Key{k("main.1")}
+	s.Ask(l, plenty)
+	s.Move(q)
+	if n, err := s.Ask(l, 1); n != 1 || err != api.ErrBudget {
+		t.Error("counted from the beginning", n, err)
+	}
+	s = New(p)
+	s.Ask(l, plenty)
+	s.Move(q)
+	s.Ask(l, plenty)
+	fresh.Ask(l, plenty)
+	if !sameTable(s.Table(), fresh.Table()) || texts(s.Points()) != texts(fresh.Points()) || !value.Same(of(s, "main.1", ""), value.Int(span.Of(0, 49), cong.Of(49, 0))) {
+		t.Error(s.Table(), fresh.Table())
+	}
+}
+
+// P33.3: what is no longer read or contributed does not count when it changes.
+func TestOldDependencies(t *testing.T) {
+	lines := []string{"int g;", "int f() { return 1; }", "int main() { int x; g = 7; x = f(); return x; }"}
+	s := New(program(lines...))
+	l := []api.Key{k("main.1"), k("g"), k("f.1")}
+	s.Ask(l, plenty)
+	lines[2] = "int main() { int x; x = 5; return x; }"
+	s.Move(program(lines...))
+	s.Ask(l, plenty)
+	lines[1] = "int f() { return 2; }"
+	s.Move(program(lines...))
+	if got := texts(s.Stable()); got != "g main.0 main.1 main.2 main.3" {
+		t.Error("f was read before", got)
+	}
+	lines[2] = "int main() { int x; x = 6; return x; }"
+	s.Move(program(lines...))
+	if got := texts(s.Stable()); got != "g" {
+		t.Error("main added to g before", got)
 	}
 }
 
