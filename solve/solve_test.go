@@ -118,7 +118,7 @@ func TestLoopSteps(t *testing.T) {
 
 // P33.1: an unknown may be on the stack twice, and stays there when it is popped once.
 func TestTwice(t *testing.T) {
-	s := New(program("int main() { return 3; }"))
+	s := New(program("int g;", "int main() { return 3; }"))
 	s.Push(k("main.0"))
 	s.Push(k("main.0"))
 	s.Step()
@@ -133,8 +133,8 @@ func TestTwice(t *testing.T) {
 		t.Error(texts(s.Points()), "/", texts(s.Stable()))
 	}
 	s.Push(api.Key{Name: "g", Node: -8})
-	if table := s.Table(); table[0].Key != (api.Key{Name: "g", Node: -1}) || s.Step() != api.OK || !key.Has(s.Stable(), k("g")) {
-		t.Error("a key that is not clean", table)
+	if s.Step() != api.OK || !value.Same(of(s, "g", ""), value.Num(0)) || !slices.Contains(s.Stable(), k("g")) {
+		t.Error("a key that is not clean", s.Table())
 	}
 }
 
