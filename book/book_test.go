@@ -1,33 +1,21 @@
 package book_test
 
 import (
-	"strings"
 	"testing"
 
 	"sondage/api"
 	. "sondage/book"
 	"sondage/cell"
 	"sondage/cong"
-	"sondage/key"
+	"sondage/sample"
 	"sondage/span"
 	"sondage/value"
 )
 
-func k(text string) api.Key {
-	x, err := key.Read(text)
-	if err != api.OK {
-		panic(text)
-	}
-	return x
-}
-
-func texts(l []api.Key) string {
-	var s []string
-	for _, x := range l {
-		s = append(s, key.Text(x))
-	}
-	return strings.Join(s, " ")
-}
+var (
+	k     = sample.Key
+	texts = sample.Show
+)
 
 func num(n int) api.State { return api.State{Val: value.Num(n)} }
 

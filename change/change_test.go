@@ -7,23 +7,10 @@ import (
 
 	"sondage/api"
 	. "sondage/change"
-	"sondage/grammar"
+	"sondage/sample"
 )
 
-// program parses globals and functions, one a line.
-func program(lines ...string) api.Program {
-	var p api.Program
-	for _, line := range lines {
-		if f, _, err := grammar.FuncText([]byte(line)); err == api.OK {
-			p.Funcs = append(p.Funcs, f)
-		} else if g, _, err := grammar.GlobalText([]byte(line)); err == api.OK {
-			p.Globals = append(p.Globals, g)
-		} else {
-			panic(line)
-		}
-	}
-	return p
-}
+var program = sample.Lines
 
 func row(l []string) string { return strings.Join(l, " ") }
 

@@ -2,33 +2,22 @@ package query_test
 
 import (
 	"slices"
-	"strings"
 	"testing"
 
 	"sondage/api"
 	"sondage/cong"
-	"sondage/grammar"
-	"sondage/key"
 	"sondage/names"
 	. "sondage/query"
+	"sondage/sample"
 	"sondage/span"
 	"sondage/value"
 )
 
-// program parses globals and functions, one a line.
-func program(lines ...string) api.Program {
-	var p api.Program
-	for _, line := range lines {
-		if f, _, err := grammar.FuncText([]byte(line)); err == api.OK {
-			p.Funcs = append(p.Funcs, f)
-		} else if g, _, err := grammar.GlobalText([]byte(line)); err == api.OK {
-			p.Globals = append(p.Globals, g)
-		} else {
-			panic(line)
-		}
-	}
-	return p
-}
+var (
+	program = sample.Lines
+	k       = sample.Key
+	texts   = sample.Show
+)
 
 // world: f has the nodes 0, 1, 2 (after the first assertion), 3 and 4; b and odd are shadowed or strange.
 func world() api.Program {
@@ -36,22 +25,6 @@ func world() api.Program {
 	p.Globals = append(p.Globals, api.Global{Name: "odd", Ptr: true, Size: 4}, api.Global{Name: "g", Size: 4}, api.Global{Name: "y", Ptr: true}, api.Global{Name: "single", Size: 1})
 	p.Funcs = append(p.Funcs, api.Func{Name: "f"}, api.Func{Name: "odd", Body: []api.Stmt{{Op: api.StAssert}}})
 	return p
-}
-
-func k(text string) api.Key {
-	x, err := key.Read(text)
-	if err != api.OK {
-		panic(text)
-	}
-	return x
-}
-
-func texts(l []api.Key) string {
-	var s []string
-	for _, x := range l {
-		s = append(s, key.Text(x))
-	}
-	return strings.Join(s, " ")
 }
 
 // command reads: kind, node and name.

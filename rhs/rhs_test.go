@@ -9,44 +9,19 @@ import (
 	"sondage/cell"
 	"sondage/cong"
 	"sondage/env"
-	"sondage/grammar"
 	"sondage/key"
 	"sondage/names"
 	. "sondage/rhs"
+	"sondage/sample"
 	"sondage/span"
 	"sondage/value"
 )
 
-// program parses globals and functions, one a line.
-func program(lines ...string) api.Program {
-	var p api.Program
-	for _, line := range lines {
-		if f, _, err := grammar.FuncText([]byte(line)); err == api.OK {
-			p.Funcs = append(p.Funcs, f)
-		} else if g, _, err := grammar.GlobalText([]byte(line)); err == api.OK {
-			p.Globals = append(p.Globals, g)
-		} else {
-			panic(line)
-		}
-	}
-	return p
-}
-
-func k(text string) api.Key {
-	x, err := key.Read(text)
-	if err != api.OK {
-		panic(text)
-	}
-	return x
-}
-
-func texts(l []api.Key) string {
-	var s []string
-	for _, x := range l {
-		s = append(s, key.Text(x))
-	}
-	return strings.Join(s, " ")
-}
+var (
+	program = sample.Lines
+	k       = sample.Key
+	texts   = sample.Show
+)
 
 func live(l ...api.Bind) api.State { return api.State{Env: env.Clean(api.Env{Live: true, Binds: l})} }
 

@@ -6,24 +6,11 @@ import (
 	"testing"
 
 	"sondage/api"
-	"sondage/grammar"
 	. "sondage/run"
+	"sondage/sample"
 )
 
-// program parses globals and functions, one a line.
-func program(lines ...string) api.Program {
-	var p api.Program
-	for _, line := range lines {
-		if f, _, err := grammar.FuncText([]byte(line)); err == api.OK {
-			p.Funcs = append(p.Funcs, f)
-		} else if g, _, err := grammar.GlobalText([]byte(line)); err == api.OK {
-			p.Globals = append(p.Globals, g)
-		} else {
-			panic(line)
-		}
-	}
-	return p
-}
+var program = sample.Lines
 
 func begun(t *testing.T, in []int, lines ...string) *Run {
 	r, err := New(program(lines...), in)

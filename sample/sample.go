@@ -6,7 +6,6 @@ import (
 	"strings"
 
 	"sondage/api"
-	"sondage/grammar"
 )
 
 // Shape says which programs are made.
@@ -76,18 +75,7 @@ func (m *maker) pointerParam() string {
 }
 
 // Program returns the program with these texts.
-func Program(seed int, shape Shape) api.Program {
-	var p api.Program
-	for _, text := range Texts(seed, shape) {
-		if g, _, err := grammar.GlobalText([]byte(text)); err == api.OK {
-			p.Globals = append(p.Globals, g)
-			continue
-		}
-		f, _, _ := grammar.FuncText([]byte(text))
-		p.Funcs = append(p.Funcs, f)
-	}
-	return p
-}
+func Program(seed int, shape Shape) api.Program { return Lines(Texts(seed, shape)...) }
 
 // function returns the text of function i, or of main.
 func (m *maker) function(i int) string {

@@ -8,7 +8,6 @@ import (
 	"sondage/api"
 	"sondage/cell"
 	"sondage/flow"
-	"sondage/grammar"
 	"sondage/post"
 	"sondage/query"
 	"sondage/run"
@@ -19,20 +18,7 @@ import (
 	"sondage/value"
 )
 
-// program parses globals and functions, one a line.
-func program(lines ...string) api.Program {
-	var p api.Program
-	for _, line := range lines {
-		if f, _, err := grammar.FuncText([]byte(line)); err == api.OK {
-			p.Funcs = append(p.Funcs, f)
-		} else if g, _, err := grammar.GlobalText([]byte(line)); err == api.OK {
-			p.Globals = append(p.Globals, g)
-		} else {
-			panic(line)
-		}
-	}
-	return p
-}
+var program = sample.Lines
 
 // P41.1
 func TestScript(t *testing.T) {

@@ -21,13 +21,10 @@ import (
 	"sondage/value"
 )
 
-func k(text string) api.Key {
-	x, err := key.Read(text)
-	if err != api.OK {
-		panic(text)
-	}
-	return x
-}
+var (
+	k     = sample.Key
+	texts = sample.Show
+)
 
 // ask makes a query: kind, node and name.
 func ask(kind int, node, name string) api.Command {
@@ -58,14 +55,6 @@ func begin(t *testing.T, texts ...string) *Session {
 		}
 	}
 	return s
-}
-
-func texts(l []api.Key) string {
-	var s []string
-	for _, x := range l {
-		s = append(s, key.Text(x))
-	}
-	return strings.Join(s, " ")
 }
 
 func between(lo, hi int) api.Value { return value.Int(span.Of(lo, hi), cong.All()) }

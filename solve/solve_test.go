@@ -10,7 +10,6 @@ import (
 	"sondage/cell"
 	"sondage/cong"
 	"sondage/env"
-	"sondage/grammar"
 	"sondage/key"
 	"sondage/look"
 	"sondage/rhs"
@@ -20,38 +19,13 @@ import (
 	"sondage/value"
 )
 
+var (
+	program = sample.Lines
+	k       = sample.Key
+	texts   = sample.Show
+)
+
 const plenty = api.MaxBudget
-
-// program parses globals and functions, one a line.
-func program(lines ...string) api.Program {
-	var p api.Program
-	for _, line := range lines {
-		if f, _, err := grammar.FuncText([]byte(line)); err == api.OK {
-			p.Funcs = append(p.Funcs, f)
-		} else if g, _, err := grammar.GlobalText([]byte(line)); err == api.OK {
-			p.Globals = append(p.Globals, g)
-		} else {
-			panic(line)
-		}
-	}
-	return p
-}
-
-func k(text string) api.Key {
-	x, err := key.Read(text)
-	if err != api.OK {
-		panic(text)
-	}
-	return x
-}
-
-func texts(l []api.Key) string {
-	var s []string
-	for _, x := range l {
-		s = append(s, key.Text(x))
-	}
-	return strings.Join(s, " ")
-}
 
 // of returns what the table has for an unknown, with the result or a variable as its value.
 func of(s *Solver, text, name string) api.Value {

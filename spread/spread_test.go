@@ -5,46 +5,16 @@ import (
 	"testing"
 
 	"sondage/api"
-	"sondage/grammar"
-	"sondage/key"
+	"sondage/sample"
 	. "sondage/spread"
 	"sondage/web"
 )
 
-// program parses globals and functions, one a line.
-func program(lines ...string) api.Program {
-	var p api.Program
-	for _, line := range lines {
-		if f, _, err := grammar.FuncText([]byte(line)); err == api.OK {
-			p.Funcs = append(p.Funcs, f)
-		} else if g, _, err := grammar.GlobalText([]byte(line)); err == api.OK {
-			p.Globals = append(p.Globals, g)
-		} else {
-			panic(line)
-		}
-	}
-	return p
-}
-
-func keys(texts string) []api.Key {
-	var l []api.Key
-	for _, text := range strings.Fields(texts) {
-		k, err := key.Read(text)
-		if err != api.OK {
-			panic(text)
-		}
-		l = append(l, k)
-	}
-	return l
-}
-
-func texts(l []api.Key) string {
-	var s []string
-	for _, x := range l {
-		s = append(s, key.Text(x))
-	}
-	return strings.Join(s, " ")
-}
+var (
+	program = sample.Lines
+	keys    = sample.Keys
+	texts   = sample.Show
+)
 
 // of makes a web of pairs like b>a: b depends on a.
 func of(pairs string) *web.Web {

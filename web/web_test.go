@@ -6,32 +6,15 @@ import (
 
 	"sondage/api"
 	"sondage/key"
+	"sondage/sample"
 	. "sondage/web"
 )
 
-func k(text string) api.Key {
-	x, err := key.Read(text)
-	if err != api.OK {
-		panic(text)
-	}
-	return x
-}
-
-func keys(texts string) []api.Key {
-	var l []api.Key
-	for _, text := range strings.Fields(texts) {
-		l = append(l, k(text))
-	}
-	return l
-}
-
-func texts(l []api.Key) string {
-	var s []string
-	for _, x := range l {
-		s = append(s, key.Text(x))
-	}
-	return strings.Join(s, " ")
-}
+var (
+	k     = sample.Key
+	keys  = sample.Keys
+	texts = sample.Show
+)
 
 // of makes a web of pairs like b>a: b depends on a.
 func of(pairs string) *Web {
