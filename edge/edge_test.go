@@ -9,10 +9,13 @@ import (
 	"sondage/cong"
 	. "sondage/edge"
 	"sondage/env"
+	"sondage/flow"
 	"sondage/grammar"
 	"sondage/look"
 	"sondage/names"
 	"sondage/parse"
+	"sondage/run"
+	"sondage/sample"
 	"sondage/span"
 	"sondage/value"
 )
@@ -158,5 +161,88 @@ func TestGetsOnce(t *testing.T) {
 	}
 	if out := Pass(world(), call("f", "x", "h + g", "gp")); gets(out) != "h g gp f.1" {
 		t.Error(out)
+	}
+}
+
+// of returns the value that contains only a word.
+func of(w api.Word) api.Value {
+	if w.Ptr {
+		return ptr(w.To.Name == "", strings.Fields(w.To.Name)...)
+	}
+	return value.Num(w.N)
+}
+
+// state returns what a run has in the globals, each as one value, and in the variables of its last call.
+func state(r *run.Run, p api.Program, g api.Graph) ([]api.Side, api.Env) {
+	var l []api.Side
+	for _, x := range p.Globals {
+		v := api.Value{}
+		for i := range max(x.Size, 1) {
+			w, _ := r.Global(api.Cell{Name: x.Name, At: i})
+			v = value.Join(v, of(w))
+		}
+		l = append(l, known(x.Name, v))
+	}
+	e := api.Env{Live: true}
+	for _, v := range g.Vars {
+		w, _ := r.Local(v.Name)
+		e.Binds = append(e.Binds, bind(v.Name, of(w)))
+	}
+	return l, env.Clean(e)
+}
+
+// P25.2: the effect of each step that is not a call is contained in what Pass returns.
+func TestSteps(t *testing.T) {
+	many := 0
+	for seed := range 300 {
+		p := sample.Program(seed, sample.Full())
+		graphs := map[string]api.Graph{}
+		for _, f := range p.Funcs {
+			graphs[f.Name] = flow.Graph(f)
+		}
+		r, _ := run.New(p, []int{seed, -3, 7})
+		for range 200 {
+			name, node := r.Where()
+			before, e := state(r, p, graphs[name])
+			deep := r.Deep()
+			if r.Step() != api.OK || r.Deep() == 0 {
+				break
+			}
+			_, to := r.Where()
+			if r.Deep() != deep {
+				continue
+			}
+			for _, x := range graphs[name].Edges {
+				if x.From == node && x.To == to {
+					checkStep(t, r, p, graphs[name], before, Pass(look.Room{P: p, Env: e, Known: before}, x))
+					many++
+				}
+			}
+		}
+	}
+	if many < 3000 {
+		t.Error("few steps", many)
+	}
+}
+
+func checkStep(t *testing.T, r *run.Run, p api.Program, g api.Graph, before []api.Side, out Out) {
+	t.Helper()
+	after, e := state(r, p, g)
+	if w, ok := r.Local(""); ok {
+		e = live(bind("", of(w)))
+	}
+	if !env.Leq(e, out.Env) {
+		t.Fatal("variables", e, out)
+	}
+	for i, s := range after {
+		v := before[i].State.Val
+		for _, add := range out.Sides {
+			if add.Key == s.Key {
+				v = value.Join(v, add.State.Val)
+			}
+		}
+		if !value.Leq(s.State.Val, v) {
+			t.Fatal("globals", s, out)
+		}
 	}
 }

@@ -7,9 +7,14 @@ import (
 
 	"sondage/api"
 	"sondage/cong"
+	"sondage/eval"
+	"sondage/flow"
 	. "sondage/look"
+	"sondage/mem"
 	"sondage/names"
 	"sondage/parse"
+	"sondage/print"
+	"sondage/sample"
 	"sondage/span"
 	"sondage/value"
 )
@@ -158,5 +163,73 @@ func TestOnlyWhatIsRead(t *testing.T) {
 	r.Known = []api.Side{known("a", from(5, 5)), known("g", from(5, 6))}
 	if s := Expr(r, e); !equal(s.V, from(6, 9)) || gets(s) != "g" {
 		t.Error(s)
+	}
+}
+
+// word returns a word of a type, chosen by n; pointers go to places of the globals of sample programs.
+func word(ptr bool, n int) api.Word {
+	if !ptr {
+		return api.Word{N: []int{0, 1, 2, -1, 5, -7, 1 << 62, -1 << 63}[n%8]}
+	}
+	return api.Word{Ptr: true, To: []api.Cell{{}, {Name: "g"}, {Name: "h"}, {Name: "a"}, {Name: "a", At: 2}}[n%5]}
+}
+
+// around returns a value that contains a word, and others if n is odd.
+func around(w api.Word, n int) api.Value {
+	v := value.Num(w.N)
+	if w.Ptr {
+		v = ptr(w.To.Name == "", strings.Fields(w.To.Name)...)
+	}
+	if n%2 == 1 {
+		v = value.Join(v, around(word(w.Ptr, n+3), 0))
+	}
+	return v
+}
+
+func has(v api.Value, w api.Word) bool {
+	if w.Ptr {
+		return value.HasPtr(v, w.To.Name)
+	}
+	return value.HasInt(v, w.N)
+}
+
+// P23.4: what an expression evaluates to in a run is contained in its value.
+func TestContains(t *testing.T) {
+	many := 0
+	for seed := range 400 {
+		p := sample.Program(seed, sample.Full())
+		m := mem.New(p)
+		var l []api.Side
+		for i, h := range m.All() {
+			w := word(h.W.Ptr, seed*3+i)
+			m.Set(h.C, w)
+			s, _ := Known(l, api.Key{Name: h.C.Name, Node: -1})
+			l = append([]api.Side{known(h.C.Name, value.Join(s.Val, around(w, seed+i)))}, l...)
+		}
+		for _, f := range p.Funcs {
+			g := flow.Graph(f)
+			frame := eval.New(g, nil)
+			e := api.Env{Live: true}
+			for i, v := range g.Vars {
+				w := word(v.Ptr, seed*5+i)
+				frame.Set(v.Name, w)
+				e.Binds = append(e.Binds, api.Bind{Name: v.Name, V: around(w, seed/2+i)})
+			}
+			for _, x := range g.Edges {
+				for _, exp := range x.Exps {
+					w, err := eval.Expr(m, frame, exp)
+					s := Expr(Room{P: p, Env: e, Known: l}, exp)
+					if s.Wants || err == api.OK && !has(s.V, w) {
+						t.Fatal(seed, print.Expr(exp), w, s)
+					}
+					if err == api.OK {
+						many++
+					}
+				}
+			}
+		}
+	}
+	if many < 2000 {
+		t.Error("few expressions", many)
 	}
 }

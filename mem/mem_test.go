@@ -9,7 +9,7 @@ import (
 )
 
 func world() *Mem {
-	return New(api.Program{Globals: []api.Global{{Name: "x"}, {Name: "p", Ptr: true}, {Name: "a", Size: 2}, {Name: "x", Size: 9}, {Name: "q", Ptr: true, Size: 3}, {Name: "n", Size: -4}}})
+	return New(api.Program{Globals: []api.Global{{Name: "x"}, {Name: "p", Ptr: true}, {Name: "a", Size: 2}, {Name: "x", Size: 9}, {Name: "q", Ptr: true}, {Name: "n", Size: -4}}})
 }
 
 var null = api.Word{Ptr: true}

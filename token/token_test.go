@@ -24,19 +24,19 @@ func TestRead(t *testing.T) {
 	}
 	for _, x := range []struct{ text, joined string }{
 		{"", ""},
-		{"==", "== "},
-		{"a z A Z _ zzZZ09", "a z A Z _ zzZZ09 "},
+		{"==", "=="},
+		{"a z A Z _ zzZZ09", "a z A Z _ zzZZ09"},
 		{" \t\r\n", ""},
-		{"a==b!=c<=d&&e||f", "a == b != c <= d && e || f "},
-		{"(){}[];,=<+-*/%!&", "( ) { } [ ] ; , = < + - * / % ! & "},
-		{"===!==<==&&&", "== = != = <= = && & "},
-		{"int iff if else while return assert input null nul Int _a a_1", "int iff if else while return assert input null nul Int _a a_1 "},
-		{"0 10 9223372036854775807", "0 10 9223372036854775807 "},
-		{"x 1\n2", "x 1 2 "},
-		{name20() + " " + name20(), name20() + " " + name20() + " "},
+		{"a==b!=c<=d&&e||f", "a == b != c <= d && e || f"},
+		{"(){}[];,=<+-*/%!&", "( ) { } [ ] ; , = < + - * / % ! &"},
+		{"===!==<==&&&", "== = != = <= = && &"},
+		{"int iff if else while return assert input null nul Int _a a_1", "int iff if else while return assert input null nul Int _a a_1"},
+		{"0 10 9223372036854775807", "0 10 9223372036854775807"},
+		{"x 1\n2", "x 1 2"},
+		{name20() + " " + name20(), name20() + " " + name20() + ""},
 	} {
 		l, at, err := Read([]byte(x.text))
-		if err != api.OK || at != 0 || Join(l) != x.joined || l[len(l)-1] != (api.Token{At: len(x.text)}) {
+		if err != api.OK || at != 0 || Join(l[:len(l)-1]) != x.joined || l[len(l)-1] != (api.Token{At: len(x.text)}) {
 			t.Errorf("%q: %q %d %d", x.text, Join(l), at, err)
 		}
 		for _, k := range l[:len(l)-1] {
