@@ -362,7 +362,7 @@ func TestSoundness(t *testing.T) {
 					}
 				}
 			}
-			change(s, seed*17+round)
+			replace(s, seed*17+round)
 		}
 	}
 	if seen < 1000 {
@@ -370,8 +370,8 @@ func TestSoundness(t *testing.T) {
 	}
 }
 
-// change replaces a function of a session by another one with its name, if that is accepted.
-func change(s *Session, seed int) {
+// replace replaces a function of a session by another one with its name, if that is accepted.
+func replace(s *Session, seed int) {
 	lines := sample.Texts(seed+5000, sample.Full())
 	for i := range 3 {
 		s.Do(edit(lines[4+(seed+i)%3]))
