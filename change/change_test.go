@@ -54,6 +54,10 @@ func TestDiff(t *testing.T) {
 		}
 		p = program(base...)
 	}
+	nameless := api.Program{Funcs: []api.Func{{}}, Globals: []api.Global{{}}}
+	if d := Of(nameless, api.Program{}); len(d.Funcs) != 1 || len(d.Globals) != 1 {
+		t.Error("what has no name exists too", d)
+	}
 	twin := api.Program{Funcs: []api.Func{{Name: "f"}, {Name: "f", Locals: []api.Var{{Name: "x"}}}}, Globals: []api.Global{{Name: "a"}, {Name: "a", Size: 3}}}
 	single := api.Program{Funcs: twin.Funcs[:1], Globals: twin.Globals[:1]}
 	if d := Of(twin, single); len(d.Funcs)+len(d.Globals) != 0 {

@@ -31,6 +31,11 @@ func TestSigns(t *testing.T) {
 			t.Error(op, sign, level, back, same)
 		}
 	}
+	for op, want := range map[int]int{api.ExpOr: 1, api.ExpAnd: 2, api.ExpEq: 3, api.ExpNe: 3, api.ExpLt: 4, api.ExpLe: 4, api.ExpAdd: 5, api.ExpSub: 5, api.ExpMul: 6, api.ExpDiv: 6, api.ExpRem: 6} {
+		if _, level := Sign(op); level != want {
+			t.Error(op, level)
+		}
+	}
 	for _, sign := range []string{"", "=", "!", "&", "|", "<<", "int"} {
 		if op, level := Operator(sign); op != 0 || level != 0 {
 			t.Error(sign, op, level)
